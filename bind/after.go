@@ -2,6 +2,7 @@ package bind
 
 import (
 	"wharfinger/api"
+	"wharfinger/books"
 	"wharfinger/object"
 )
 
@@ -16,10 +17,10 @@ func nextAct(all []api.Object, version uint64, k api.Key) api.Act {
 }
 
 func afterCreate(all []api.Object, claim api.Object, next uint64, r api.Result) api.Act {
-	class, _ := get(all, api.Class, claim.Class)
+	class, _ := books.Get(all, api.Class, claim.Class)
 	switch r.Err {
 	case api.OK:
-		return write(made(claim, class.Keep, r))
+		return books.Write(made(claim, class.Keep, r))
 	case api.ErrLost: // the same call is asked again: it is done once, whatever became of it
 		return api.Act{}
 	case api.ErrStale:
@@ -30,7 +31,7 @@ func afterCreate(all []api.Object, claim api.Object, next uint64, r api.Result) 
 		}
 	}
 	claim.Num = next
-	return write(claim)
+	return books.Write(claim)
 }
 
 // made is the volume that was made for a claim.
@@ -53,10 +54,10 @@ func made(claim api.Object, keep bool, r api.Result) api.Object {
 func afterErase(o api.Object, next uint64, e api.Errno) api.Act {
 	switch e {
 	case api.OK:
-		return remove(o)
+		return books.Remove(o)
 	case api.ErrStale:
 		o.Num = next
-		return write(o)
+		return books.Write(o)
 	}
 	return api.Act{}
 }

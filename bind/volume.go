@@ -1,16 +1,19 @@
 package bind
 
-import "wharfinger/api"
+import (
+	"wharfinger/api"
+	"wharfinger/books"
+)
 
 // claimed tells whether the claim that a volume is bound to is still there.
 func claimed(all []api.Object, v api.Object) bool {
-	return has(all, api.Claim, func(c api.Object) bool { return Ref(c) == v.Claim })
+	return books.Has(all, api.Claim, func(c api.Object) bool { return Ref(c) == v.Claim })
 }
 
 // inUse tells whether a volume is at a node, or may be, or is being read.
 func inUse(all []api.Object, v api.Object) bool {
-	return has(all, api.Attach, func(a api.Object) bool { return a.Volume == v.Name }) ||
-		has(all, api.Snapshot, func(s api.Object) bool { return s.Volume == v.Name && s.Phase == api.Cutting })
+	return books.Has(all, api.Attach, func(a api.Object) bool { return a.Volume == v.Name }) ||
+		books.Has(all, api.Snapshot, func(s api.Object) bool { return s.Volume == v.Name && s.Phase == api.Cutting })
 }
 
 func erasing(v api.Object, next uint64) api.Object {
