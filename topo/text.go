@@ -1,10 +1,10 @@
 package topo
 
 import (
-	"iter"
 	"strings"
 
 	"wharfinger/api"
+	"wharfinger/texts"
 )
 
 // readText reads a text of labels or of terms: such as read tells, whose keys rise. The empty text has none.
@@ -30,7 +30,7 @@ func printText[T any](l []T, print func(T) (string, bool), key func(T) string) (
 // readList reads what stands between marks, if it is not more than most, and its keys rise.
 func readList[T any](s string, mark rune, most int, read func(string) (T, bool), key func(T) string) ([]T, bool) {
 	var l []T
-	for part := range cut(s, mark) {
+	for part := range texts.Cut(s, mark) {
 		x, ok := read(part)
 		if !ok || len(l) == most || len(l) > 0 && key(x) <= key(l[len(l)-1]) {
 			return nil, false
@@ -57,23 +57,6 @@ func printList[T any](l []T, mark rune, most int, print func(T) (string, bool), 
 		b.WriteString(part)
 	}
 	return b.String(), true
-}
-
-// cut yields what stands between the marks of a text; mark has one byte.
-func cut(s string, mark rune) iter.Seq[string] {
-	return func(yield func(string) bool) {
-		from := 0
-		for i, r := range s {
-			if r != mark {
-				continue
-			}
-			if !yield(s[from:i]) {
-				return
-			}
-			from = i + 1
-		}
-		yield(s[from:])
-	}
 }
 
 // pair is what stands ahead of the first = of a text, and behind it.
