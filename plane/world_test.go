@@ -339,28 +339,43 @@ func (w *world) volumeAtRest(t *testing.T, v api.Object) {
 	}
 }
 
+// happen lets users, mishaps and replicas take turns, whatever becomes of calls.
+func (w *world) happen(t *testing.T, r *rand.Rand, turns int) {
+	t.Helper()
+	w.begin(t)
+	for range turns {
+		w.user(r)
+		w.look(t)
+		if r.Intn(3) == 0 {
+			w.mishap(r)
+			w.look(t)
+		}
+		for range r.Intn(4) {
+			w.step(t, r, func() api.Outcome { return api.Outcome(r.Intn(4)) })
+		}
+	}
+}
+
 // P15.5 to P15.10, and E2 to E6: whatever is refused, lost, late or doubled, whoever crashes, and when the power goes.
 func TestWorld(t *testing.T) {
 	for seed := range 50 {
 		r := rand.New(rand.NewSource(int64(seed)))
 		w := newWorld(t, api.Zone{Name: "a", Room: 1 << 20}, api.Zone{Name: "b", Room: 1 << 20})
-		w.begin(t)
-		for range 150 {
-			w.user(r)
-			w.look(t)
-			if r.Intn(3) == 0 {
-				w.mishap(r)
-				w.look(t)
-			}
-			for range r.Intn(4) {
-				w.step(t, r, func() api.Outcome { return api.Outcome(r.Intn(4)) })
-			}
-		}
+		w.happen(t, r, 150)
 		w.rest(t, r)
 		w.atRest(t)
 		for i := range w.Sent() {
 			w.Again(i)
 			w.look(t)
 		}
+	}
+}
+
+// P15.5 to P15.9: where there is not room for all, too.
+func TestNarrowWorld(t *testing.T) {
+	for seed := range 30 {
+		r := rand.New(rand.NewSource(int64(seed)))
+		w := newWorld(t, api.Zone{Name: "a", Room: 25}, api.Zone{Name: "b", Room: 12})
+		w.happen(t, r, 150)
 	}
 }

@@ -164,6 +164,12 @@ func TestMake(t *testing.T) {
 		"show class=g - 0 -;h - 0 -;i - 0 -", "show node=n - 0 -")
 }
 
+// P16.1: what is - is empty, where the line says so: a class of no zone has none made for it, unless a node tells where.
+func TestEmpty(t *testing.T) {
+	run(t, "class f - -=ok", "class - - -=ok", "claim c f 1 one -=ok", "claim d - 1 one -=ok", "elect bind 0=ok", "step bind 0 done=ok nothing", "step bind 0 done=ok nothing", "show claim=c pending 0 -;d pending 0 -",
+		"snap - c=ok", "claim e f 1 one --=ok", "node - b=ok", "pod - c=ok", "place - -=ok", "run 9=ok", "driver=none", "del node -=ok", "del pod -=ok", "del snap -=ok", "run 9=ok", "show snap=none")
+}
+
 // P16.1, P16.2: what steps do, and how far objects are.
 func TestSteps(t *testing.T) {
 	run(t,
